@@ -1,0 +1,1 @@
+"""Tables of states and moves for any grammar, conflicts kept."""
