@@ -1,6 +1,6 @@
 """The classes of a grammar: the parts into which the ends of its ranges cut the bytes."""
 
-from movetables.grammar import RANGE
+from movetables.grammar import RANGE, THE_END
 
 
 def ranges_of(rules):
@@ -33,6 +33,17 @@ def classes_of(rules):
         if depth > 0:
             classes.append((cuts[number], cuts[number + 1] - 1))
     return classes
+
+
+# For each byte the class in which it lies, None if it lies in none; and for the end how many
+# classes there are.
+def columns_of(classes):
+    columns = [None] * THE_END
+    for number, bounds in enumerate(classes):
+        for byte in range(bounds[0], bounds[1] + 1):
+            columns[byte] = number
+    columns.append(len(classes))
+    return columns
 
 
 # The rules with each range told by its first and last class instead of bytes: a range is made

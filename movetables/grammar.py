@@ -11,6 +11,8 @@ MOST_NONTERMINALS = 20
 MOST_RULES = 60
 MOST_SYMBOLS = 8
 LAST_BYTE = 255
+# Stands for the end of a text where a byte might stand.
+THE_END = 256
 
 
 class Grammar:

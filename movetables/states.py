@@ -3,13 +3,14 @@
 An item is a pair: rule and place. A state is the list of its items in order.
 """
 
-from movetables.classes import classes_of, rules_over_classes
+from movetables.classes import classes_of, columns_of, rules_over_classes
 from movetables.grammar import NONTERMINAL, RANGE
 
 MOST_STATES = 128
 
 
 # rules: those of the grammar with their ranges told by classes, and rule number R behind them.
+# columns: for each byte its class, None if it has none; and how many classes, for THE_END.
 # moves: for each state a dict from (NONTERMINAL, number) or (RANGE, class) to a state, in the
 # order in which moves are told. whole: for each state the rules that are whole in it.
 class Table:
@@ -17,6 +18,7 @@ class Table:
         self.nonterminals = nonterminals
         self.rules = rules
         self.classes = classes
+        self.columns = columns_of(classes)
         self.states = []
         self.moves = []
         self.whole = []
@@ -25,6 +27,10 @@ class Table:
 # The number of the rule whose symbols are the start alone.
 def start_rule(table):
     return len(table.rules) - 1
+
+
+def has_state(table, state):
+    return 0 <= state < len(table.states)
 
 
 # None for a whole item.

@@ -1,11 +1,14 @@
 """The calls on one object, told and answered by whole numbers.
 
-Call numbers and refusals stand as the document has them.
+Call numbers stand as the document has them.
 """
 
-from movetables.grammar import Grammar, read_grammar
+from movetables.doing import all_things, conflicts_among
+from movetables.going import go
+from movetables.grammar import THE_END, Grammar, read_grammar
 from movetables.reading import parse
-from movetables.states import make_table
+from movetables.refusals import NO_GRAMMAR_ROW, NO_SUCH_STATE, NO_SYMBOL, TOO_MANY_STATES, WRONG_NUMBER
+from movetables.states import has_state, make_table
 
 LOAD = 0
 CLASSES = 1
@@ -14,21 +17,15 @@ ITEMS = 3
 MOVES = 4
 COMPLETE = 5
 ACTS = 6
-PARSE = 9
-
-BELOW_ZERO = -1
-NO_GRAMMAR_ROW = -2
-NO_SUCH_STATE = -4
-TOO_MANY_STATES = -6
+GO = 7
+CONFLICTS = 8
 
 
-class CallNotBuilt(Exception):
-    pass
-
-
+# things: what may be done in each state; None as long as nobody has asked since the last load.
 class Held:
     def __init__(self):
         self.table = make_table(Grammar(1, []))
+        self.things = None
 
 
 # Takes the numbers of a list one behind the other, and leaves the list as it is.
@@ -54,7 +51,7 @@ class Line:
 
 def load(held, row):
     if min(row, default=0) < 0:
-        return [BELOW_ZERO]
+        return [WRONG_NUMBER]
     grammar = read_grammar(row)
     if grammar is None:
         return [NO_GRAMMAR_ROW]
@@ -62,7 +59,15 @@ def load(held, row):
     if table is None:
         return [TOO_MANY_STATES]
     held.table = table
+    held.things = None
     return [0, len(table.states)]
+
+
+# Found when first asked for: it takes longer than the table itself, and is often not asked for.
+def things_of(held):
+    if held.things is None:
+        held.things = all_things(held.table)
+    return held.things
 
 
 # A list of tuples as an answer: how many there are, and the numbers of each.
@@ -78,16 +83,21 @@ def told_moves(moves):
 
 
 def answer_of_state(table, call, state):
-    if not 0 <= state < len(table.states):
+    if not has_state(table, state):
         return [NO_SUCH_STATE]
     if call == ITEMS:
         return told(table.states[state])
     if call == MOVES:
         return told_moves(table.moves[state])
-    if call == COMPLETE:
-        return [0, len(table.whole[state])] + table.whole[state]
-    # Of acts there is so far only the refusal that it shares with the calls above.
-    raise CallNotBuilt(call)
+    return [0, len(table.whole[state])] + table.whole[state]
+
+
+def acts(held, state, byte):
+    if not has_state(held.table, state):
+        return [NO_SUCH_STATE]
+    if not 0 <= byte <= THE_END:
+        return [NO_SYMBOL]
+    return told(things_of(held)[state].get(held.table.columns[byte], []))
 
 
 def answer_of_call(held, line):
@@ -102,11 +112,14 @@ def answer_of_call(held, line):
         return answer_of_state(held.table, call, line.take())
     if call == ACTS:
         state = line.take()
-        line.take()
-        return answer_of_state(held.table, call, state)
-    if call == PARSE:
-        return parse(held.table, line.take_row())
-    raise CallNotBuilt(call)
+        return acts(held, state, line.take())
+    if call == GO:
+        state = line.take()
+        return go(held.table, state, line.take_row())
+    if call == CONFLICTS:
+        return told(conflicts_among(things_of(held)))
+    # Nothing else is handed in, so that parse is left.
+    return parse(held.table, things_of(held), line.take_row())
 
 
 def answers(calls):

@@ -13,6 +13,7 @@ class Oracle:
         self.whole_grammar = self.rules + [(None, [(0, 0)])]
         self.classes = self.find_classes()
         self.states, self.moves = self.find_states()
+        self.find_sets()
 
     def find_classes(self):
         ranges = {s for a, symbols in self.rules for s in symbols if s[0] == 1}
@@ -145,13 +146,22 @@ class Oracle:
                 found.append((1, rule))
         return found
 
-    def has_conflicts(self):
+    def conflicts(self):
         columns = [first for first, last in self.classes] + [END]
-        return any(len(self.things(i, b)) > 1 for i in range(len(self.states)) for b in columns)
+        counts = [(i, c, len(self.things(i, b))) for i in range(len(self.states)) for c, b in enumerate(columns)]
+        return [one for one in counts if one[2] > 1]
+
+    def go(self, i, symbols):
+        for k, (kind, number) in enumerate(symbols):
+            wanted = (kind, self.class_of(number) if kind == 1 else number)
+            targets = [state for kind, number, state in self.moves[i] if (kind, number) == wanted]
+            if not targets:
+                return [1, k]
+            i = targets[0]
+        return [0, i]
 
     def parse(self, text):
-        self.find_sets()
-        if self.has_conflicts():
+        if self.conflicts():
             return [-7]
         row, place, rules = [0], 0, []
         for step in range(4000):
@@ -168,8 +178,9 @@ class Oracle:
             a, symbols = self.rules[number]
             for s in symbols:
                 row.pop()
-            targets = [state for k, n, state in self.moves[row[-1]] if (k, n) == (0, a)]
-            row += targets
+            # A rule comes in only where its nonterminal is some item's next symbol.
+            target, = [state for k, n, state in self.moves[row[-1]] if (k, n) == (0, a)]
+            row.append(target)
             rules.append(number)
         return [-8]
 
@@ -193,3 +204,92 @@ class Oracle:
             if more <= covered:
                 return (0, 0, size) in covered
             covered |= more
+
+
+class Model:
+    """The object, with all ten calls; a call is its name and its arguments."""
+
+    def __init__(self):
+        self.held = Oracle(1, [])
+
+    def answer(self, name, *arguments):
+        return getattr(self, name)(*arguments)
+
+    def grammar_of(self, row):
+        """None if it is no grammar row; takes the row apart number by number."""
+        left = list(row)
+        try:
+            nonterminals, count = left.pop(0), left.pop(0)
+            fits = 1 <= nonterminals <= 20 and 0 <= count <= 60
+            rules = []
+            while fits and len(rules) < count:
+                a, size = left.pop(0), left.pop(0)
+                fits = a < nonterminals and size <= 8
+                symbols = []
+                while fits and len(symbols) < size:
+                    kind = left.pop(0)
+                    symbols.append((kind, left.pop(0)) if kind != 1 else (kind, left.pop(0), left.pop(0)))
+                    fits = (kind == 0 and symbols[-1][1] < nonterminals
+                            or kind == 1 and symbols[-1][1] <= symbols[-1][2] <= 255)
+                rules.append((a, symbols))
+        except IndexError:
+            return None
+        return (nonterminals, rules) if fits and not left else None
+
+    def load(self, row):
+        if any(number < 0 for number in row):
+            return [-1]
+        grammar = self.grammar_of(row)
+        if grammar is None:
+            return [-2]
+        made = Oracle(*grammar)
+        if len(made.states) > 128:
+            return [-6]
+        self.held = made
+        return [0, len(made.states)]
+
+    def told(self, tuples):
+        return [0, len(tuples)] + [number for one in tuples for number in one]
+
+    def is_state(self, i):
+        return i in range(len(self.held.states))
+
+    def classes(self):
+        return self.told(self.held.classes)
+
+    def states(self):
+        return [0, len(self.held.states)]
+
+    def items(self, i):
+        return self.told(sorted(self.held.states[i])) if self.is_state(i) else [-4]
+
+    def moves(self, i):
+        return self.told(self.held.moves[i]) if self.is_state(i) else [-4]
+
+    def complete(self, i):
+        return self.told([(rule,) for rule in self.held.complete(i)]) if self.is_state(i) else [-4]
+
+    def acts(self, i, b):
+        if not self.is_state(i):
+            return [-4]
+        return self.told(self.held.things(i, b)) if b in range(257) else [-5]
+
+    def go(self, i, symbols):
+        if any(number < 0 for number in symbols):
+            return [-1]
+        if len(symbols) > 200:
+            return [-3]
+        if not self.is_state(i):
+            return [-4]
+        parted = list(zip(symbols[::2], symbols[1::2]))
+        fits = all(kind == 0 and number < self.held.nonterminals or kind == 1 and number < 256
+                   for kind, number in parted)
+        return self.held.go(i, parted) if fits and len(symbols) == 2 * len(parted) else [-5]
+
+    def conflicts(self):
+        return self.told(self.held.conflicts())
+
+    def parse(self, text):
+        if any(number not in range(256) for number in text):
+            return [-1]
+        return [-3] if len(text) > 200 else self.held.parse(text)

@@ -33,6 +33,8 @@ def load(row):
 
 CLASSES = [1]
 STATES = [2]
+CONFLICTS = [8]
+END = 256
 
 
 def items(i):
@@ -49,6 +51,22 @@ def complete(i):
 
 def acts(i, b):
     return [6, i, b]
+
+
+def go(i, symbols):
+    return [7, i, len(symbols)] + list(symbols)
+
+
+def over(*symbols):
+    """The numbers that tell go symbols: a text tells its bytes, a number a nonterminal."""
+    numbers = []
+    for symbol in symbols:
+        if isinstance(symbol, int):
+            numbers += [0, symbol]
+        else:
+            for sign in symbol:
+                numbers += [1, ord(sign)]
+    return numbers
 
 
 def parse(text):
@@ -73,16 +91,24 @@ def parted(given):
 
 def ask(*calls):
     """The answers to these calls, one list each."""
-    found = parted(answers(line_of(calls)))
+    line = line_of(calls)
+    assert 1 <= len(calls) <= 100 and len(line) <= 17000, "more than may be handed in"
+    found = parted(answers(line))
     assert len(found) == len(calls), "not one answer for each call"
     return found
 
 
 def ask_of(row, *calls):
-    """The answers to these calls behind a load that must not be refused."""
-    found = ask(load(row), *calls)
-    assert found[0][0] == 0, found[0]
-    return found[1:]
+    """The answers to these calls, each behind a load that must not be refused.
+
+    The calls may be more than go into one list.
+    """
+    answered = []
+    for place in range(0, len(calls), 99):
+        found = ask(load(row), *calls[place:place + 99])
+        assert found[0][0] == 0, found[0]
+        answered += found[1:]
+    return answered
 
 
 def pairs(answer, size):

@@ -33,6 +33,18 @@ class Refusals(unittest.TestCase):
         for text in (b"", b"a", b"b", b"a" * 200):
             self.assertEqual(parsed(TWICE_ROW, text), [-7])
 
+    def test_the_first_that_is_told_is_answered(self):
+        # The steps of 200 a would be too many; a rule that is there twice makes a conflict.
+        slow = Steps.ROW
+        slow_with_conflict = row_of(20, Steps.RULES + [Steps.RULES[-1]])
+        self.assertEqual(parsed(slow, b"a" * 200), [-8])
+        self.assertEqual(parsed(slow_with_conflict, b"a" * 200), [-7])
+        for row in (slow, slow_with_conflict, TWICE_ROW, SUM_ROW):
+            self.assertEqual(parsed(row, b"a" * 201), [-3])
+            self.assertEqual(parsed(row, [97] * 200 + [256]), [-1])
+            self.assertEqual(parsed(row, [97] * 199 + [256]), [-1])
+            self.assertEqual(parsed(row, [-1]), [-1])
+
     def test_a_refusal_leaves_the_object(self):
         found = ask(parse([256]), load(SUM_ROW), parse([256]), parse([97] * 201), STATES, parse(b"a"))
         self.assertEqual(found, [[-1], [0, 6], [-1], [-3], [0, 6], [0, 2, 2, 1]])
@@ -50,6 +62,16 @@ class Steps(unittest.TestCase):
         self.assertEqual(found[:2], [0, 3800])
         self.assertEqual(len(found), 3802)
 
+    def test_few_bytes_with_many_steps(self):
+        # An a with 7 times 8 times 8 times 8 rules without symbols ahead of it.
+        rules = ([(0, [non(1)] * 7 + [byte("a")])] + [(k, [non(k + 1)] * 8) for k in range(1, 4)] + [(4, [])])
+        self.assertEqual(parsed(row_of(5, rules), b"a"), [-8])
+        self.assertEqual(parsed(row_of(5, rules), b""), [1, 0])
+        # One less: 7 * (1 + 8 + 64) of these, and rule 0.
+        found = parsed(row_of(5, rules[:3] + [(3, [])]), b"a")
+        self.assertEqual(found[:2], [0, 7 * 73 + 1])
+        self.assertEqual(found[2:12], [3] * 8 + [2, 3])
+
     def test_4001_steps_are_not(self):
         self.assertEqual(parsed(self.ROW, b"a" * 189 + b"b" * 9 + b"c"), [-8])
         self.assertEqual(parsed(self.ROW, b"a" * 200), [-8])
@@ -66,7 +88,8 @@ class Reading(unittest.TestCase):
         self.assertEqual(parsed(SUM_ROW, b"a+a+a"), [0, 6, 2, 1, 2, 0, 2, 0])
 
     def test_where_reading_stops(self):
-        for text, place in ((b"", 0), (b"+", 0), (b"aa", 1), (b"a+", 2), (b"a+a+", 4), (b"ab", 1), (b"b", 0)):
+        for text, place in ((b"", 0), (b"+", 0), (b"aa", 1), (b"a+", 2), (b"a+a+", 4), (b"ab", 1), (b"b", 0),
+                            (b"+a", 0), (b"a++a", 2), (b"a+b", 2), (b"a+ab+a", 3), (b"\0", 0), (b"a\xff", 1)):
             self.assertEqual(parsed(SUM_ROW, text), [1, place], text)
 
     def test_rules_without_symbols(self):
@@ -88,6 +111,13 @@ class Reading(unittest.TestCase):
         self.assertEqual(parsed(row, [31, 20]), [1, 0])
         self.assertEqual(parsed(row, [10, 19]), [1, 1])
         self.assertEqual(parsed(row, [60]), [0, 1, 1])
+
+    def test_the_text_without_bytes(self):
+        self.assertEqual(parsed(SUM_ROW, b""), [1, 0])
+        self.assertEqual(parsed([1, 0], b""), [1, 0])
+        self.assertEqual(parsed(row_of(1, [(0, [])]), b""), [0, 1, 0])
+        self.assertEqual(parsed(row_of(3, [(0, [non(1), non(2), non(1)]), (1, []), (2, [non(1)])]), b""),
+                         [0, 5, 1, 1, 2, 1, 0])
 
     def test_a_start_that_covers_nothing(self):
         row = row_of(1, [(0, [byte("a"), non(0)])])

@@ -49,6 +49,19 @@ class EachState(unittest.TestCase):
             [(0, 0, 3), (1, 0, 2)]])
         self.assertEqual(all_complete(TWICE_ROW, 4), [[], [2], [1], [0]])
 
+    def test_rule_number_r_is_whole_behind_the_start(self):
+        for row, rules in ((SUM_ROW, 3), (TWICE_ROW, 2), ([1, 0], 0), (row_of(1, [(0, [byte("a")])] * 60), 60)):
+            self.assertEqual(ask_of(row, complete(1)), [[0, 1, rules]])
+        self.assertEqual(ask_of(row_of(1, [(0, [non(0)]), (0, [])]), complete(1)), [[0, 2, 0, 2]])
+
+    def test_a_state_in_which_no_rule_is_whole(self):
+        self.assertEqual(ask_of(SUM_ROW, complete(0), complete(4)), [[0, 0], [0, 0]])
+        self.assertEqual(ask(complete(0)), [[0, 0]])
+
+    def test_whole_whether_anything_follows_or_not(self):
+        row = row_of(2, [(0, [non(1), non(0)]), (1, [byte("a")]), (1, [byte("a")])])
+        self.assertEqual(ask_of(row, complete(3)), [[0, 2, 1, 2]])
+
     def test_rules_without_symbols_are_whole_where_they_come_in(self):
         row = row_of(2, [(0, [non(1), byte("x")]), (1, []), (1, [])])
         self.assertEqual(all_complete(row, 4), [[1, 2], [3], [], [0]])
